@@ -1,0 +1,1 @@
+"""Talkmost: what a teller can bring others to do."""

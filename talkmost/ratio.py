@@ -1,0 +1,67 @@
+"""Fractions: tuples `(p, q)` in lowest terms with `q` at least 1."""
+
+from math import gcd
+
+ZERO = (0, 1)
+ONE = (1, 1)
+
+
+def ratio(p, q):
+    """Return the fraction p by q, where q is not 0."""
+    if q < 0:
+        p, q = -p, -q
+    common = gcd(p, q)
+    return (p // common, q // common)
+
+
+def is_fraction(number):
+    """Return whether the tuple of integers has the form of a fraction."""
+    return len(number) == 2 and number[1] >= 1 and gcd(number[0], number[1]) == 1
+
+
+def add(a, b):
+    """Return the sum."""
+    return ratio(a[0] * b[1] + b[0] * a[1], a[1] * b[1])
+
+
+def sub(a, b):
+    """Return the difference."""
+    return ratio(a[0] * b[1] - b[0] * a[1], a[1] * b[1])
+
+
+def mul(a, b):
+    """Return the product."""
+    return ratio(a[0] * b[0], a[1] * b[1])
+
+
+def div(a, b):
+    """Return a divided by b, which is not 0."""
+    return ratio(a[0] * b[1], a[1] * b[0])
+
+
+def neg(a):
+    """Return the negative."""
+    return (-a[0], a[1])
+
+
+def less(a, b):
+    """Return whether a is less than b."""
+    return a[0] * b[1] < b[0] * a[1]
+
+
+def at_most(a, b):
+    """Return whether a is at most b."""
+    return a[0] * b[1] <= b[0] * a[1]
+
+
+def added(numbers):
+    """Return the sum of a list, 0 of an empty one."""
+    result = ZERO
+    for number in numbers:
+        result = add(result, number)
+    return result
+
+
+def dot(a, b):
+    """Return the sum of the products of two lists of the same length."""
+    return added([mul(left, right) for left, right in zip(a, b)])
