@@ -21,12 +21,17 @@ class House:
 
 def kind_counts(house):
     """Return the list of how many kinds each hearer has."""
-    return [len(kinds) for name, kinds, acts in house.hearers]
+    return [len(kinds) for kinds in kind_lists(house)]
 
 
 def act_counts(house):
     """Return the list of how many acts each hearer has."""
     return [len(acts) for name, kinds, acts in house.hearers]
+
+
+def kind_lists(house):
+    """Return the list of the lists of the hearers' kinds."""
+    return [kinds for name, kinds, acts in house.hearers]
 
 
 def hearer_names(house):

@@ -21,12 +21,18 @@ def is_fraction(number):
 
 def add(a, b):
     """Return the sum."""
-    return ratio(a[0] * b[1] + b[0] * a[1], a[1] * b[1])
+    # What divides the new numerator and denominator divides what the old denominators have in
+    # common; so long numbers that have little in common are not divided as a whole.
+    common = gcd(a[1], b[1])
+    left = a[1] // common
+    p = a[0] * (b[1] // common) + b[0] * left
+    rest = gcd(p, common)
+    return (p // rest, left * (b[1] // rest))
 
 
 def sub(a, b):
     """Return the difference."""
-    return ratio(a[0] * b[1] - b[0] * a[1], a[1] * b[1])
+    return add(a, neg(b))
 
 
 def mul(a, b):

@@ -16,11 +16,26 @@ FUNCTIONS = {
     "houses": {
         "parse_house": "text", "format_house": "house", "kind_counts": "house", "act_counts": "house",
     },
+    "events": {
+        "parse_event": "house text", "format_event": "house event", "holds": "event state kinds acts",
+    },
+    "rules": {"is_rule": "game rule", "mixed": "rule other part"},
+    "means": {
+        "total": "game rule who", "kind_total": "game rule h i", "kind_weight": "game h i",
+        "means": "game rule",
+    },
 }
 
 CLASSES = {
     "errors": {"TalkError": {}, "BadText": {}, "UnknownName": {}, "NotAllowed": {}},
     "houses": {"House": {"__init__": "states hearers"}},
+    "game": {"Game": {"__init__": "states kinds acts weights pays"}},
+    "cases": {
+        "Case": {
+            "__init__": "house", "weigh": "state kinds weight", "weights": "", "gain": "who amount event",
+            "strike": "index", "gains": "", "game": "",
+        },
+    },
 }
 
 

@@ -81,6 +81,16 @@ class RatioTest(unittest.TestCase):
         self.assertEqual(added(numbers), (-3, 2))
         self.assertEqual(numbers, [(1, 2), (1, 3), (1, 6), (-5, 2)])
 
+    def test_added_of_long_numbers(self):
+        found = added([(HUGE, 3), (-HUGE, 6), (1, HUGE), (HUGE - 1, HUGE)])
+        self.same(found, Fraction(HUGE, 6) + 1)
+
+    def test_all_small_numbers(self):
+        small = [ratio(p, q) for p in range(-6, 7) for q in range(1, 13)]
+        for a, b in product(small, small):
+            self.same(add(a, b), Fraction(*a) + Fraction(*b))
+            self.same(sub(a, b), Fraction(*a) - Fraction(*b))
+
     def test_dot(self):
         self.assertEqual(dot([], []), (0, 1))
         self.assertEqual(dot([(1, 2)], [(2, 3)]), (1, 3))
