@@ -34,6 +34,16 @@ def rows(bounds):
     return [row_at(bounds, at) for at in range(size(bounds))]
 
 
+def replaced(items, at, item):
+    """Return the list with another item in one place."""
+    return items[:at] + [item] + items[at + 1:]
+
+
+def moved(bounds, at, where, number):
+    """Return the index of the row that has another number in one place."""
+    return place(bounds, replaced(row_at(bounds, at), where, number))
+
+
 def unit(at, many):
     """Return the chances of so many things of which one is surely drawn."""
     return [ONE if n == at else ZERO for n in range(many)]
@@ -43,6 +53,15 @@ def are_chances(numbers):
     """Return whether the fractions are chances; an empty list is none."""
     sound = all([is_fraction(number) and at_most(ZERO, number) for number in numbers])
     return sound and added(numbers) == ONE
+
+
+def nested_chances(nested, counts):
+    """Return whether these are as many lists of lists as is told, the innermost ones chances."""
+    if len(nested) != counts[0]:
+        return False
+    if len(counts) == 1:
+        return are_chances(nested)
+    return all([nested_chances(inner, counts[1:]) for inner in nested])
 
 
 def together(lists):

@@ -71,3 +71,42 @@ def added(numbers):
 def dot(a, b):
     """Return the sum of the products of two lists of the same length."""
     return added([mul(left, right) for left, right in zip(a, b)])
+
+
+def multiplied(numbers):
+    """Return the product of a list, 1 of an empty one."""
+    result = ONE
+    for number in numbers:
+        result = mul(result, number)
+    return result
+
+
+def scaled(number, numbers):
+    """Return the list of the products of a number and each number of a list."""
+    return [mul(number, other) for other in numbers]
+
+
+def first_greatest(numbers):
+    """Return the index of the first of the greatest numbers of a list that is not empty."""
+    best = 0
+    for at, number in enumerate(numbers):
+        if less(numbers[best], number):
+            best = at
+    return best
+
+
+def greatest(numbers):
+    """Return the greatest number of a list that is not empty."""
+    return numbers[first_greatest(numbers)]
+
+
+def cover(numbers, lists):
+    """Return whether each number is at least all numbers of its list."""
+    return all([at_most(lesser, number) for number, inner in zip(numbers, lists) for lesser in inner])
+
+
+def nested_numbers(nested, counts):
+    """Return whether these are as many lists of lists as is told, level by level, of fractions."""
+    if not counts:
+        return is_fraction(nested)
+    return len(nested) == counts[0] and all([nested_numbers(inner, counts[1:]) for inner in nested])

@@ -1,15 +1,12 @@
 """Rules: the chances of all rows of acts in each world."""
 
-from talkmost.draws import are_chances, size
+from talkmost.draws import nested_chances, size
 from talkmost.ratio import ONE, add, mul, sub
 
 
 def is_rule(game, rule):
     """Return whether the nested lists of fractions are a rule of the game."""
-    if len(rule) != game.states or any([len(by_kinds) != size(game.kinds) for by_kinds in rule]):
-        return False
-    lists = [chances for by_kinds in rule for chances in by_kinds]
-    return all([len(chances) == size(game.acts) and are_chances(chances) for chances in lists])
+    return nested_chances(rule, [game.states, size(game.kinds), size(game.acts)])
 
 
 def mixed(rule, other, part):

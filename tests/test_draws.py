@@ -1,7 +1,9 @@
 import unittest
 from itertools import product
 
-from talkmost.draws import are_chances, mean, place, row_at, rows, size, together, unit
+from talkmost.draws import (
+    are_chances, mean, moved, nested_chances, place, replaced, row_at, rows, size, together, unit,
+)
 
 BOUNDS = [
     [], [1], [4], [1, 1, 1], [2, 3], [3, 2], [1, 3, 1, 2], [3, 3, 3], [2, 1, 4, 2],
@@ -13,6 +15,16 @@ ONE = (1, 1)
 
 
 class RowsTest(unittest.TestCase):
+    def test_another_number_in_one_place(self):
+        items = [4, 5, 6]
+        self.assertEqual([replaced(items, at, 9) for at in range(3)], [[9, 5, 6], [4, 9, 6], [4, 5, 9]])
+        self.assertEqual(items, [4, 5, 6])
+        for at, row in enumerate(rows([2, 3, 2])):
+            for where, bound in enumerate([2, 3, 2]):
+                for number in range(bound):
+                    wanted = place([2, 3, 2], replaced(row, where, number))
+                    self.assertEqual(moved([2, 3, 2], at, where, number), wanted)
+
     def test_examples(self):
         self.assertEqual(rows([2, 2]), [[0, 0], [0, 1], [1, 0], [1, 1]])
         self.assertEqual(rows([2, 3]), [[0, 0], [0, 1], [0, 2], [1, 0], [1, 1], [1, 2]])
@@ -79,10 +91,20 @@ class ChancesTest(unittest.TestCase):
         wrong = [
             [], [ZERO], [HALF], [HALF, THIRD], [HALF, HALF, HALF], [(3, 2), (-1, 2)],
             [(-1, 2), (3, 2)], [(-1, 1)], [(2, 1)], [HALF, HALF, (1, 10 ** 60)],
-            [(2, 4), HALF], [(1, 0)], [(-1, -1)],
+            [(2, 4), HALF], [(2, 4), (2, 4)], [(1, 0)], [(-1, -1)],
         ]
         for numbers in wrong:
             self.assertIs(are_chances(numbers), False)
+
+    def test_nested_chances(self):
+        even = [HALF, HALF]
+        self.assertIs(nested_chances(even, [2]), True)
+        self.assertIs(nested_chances([[even, even, even], [even, even, even]], [2, 3, 2]), True)
+        for nested in (
+            [[even, even], [even, even, even]], [[even, even, even]], [[even, even, even], [even, even, [ONE]]],
+            [[even, even, even], [even, even, [HALF, THIRD]]], [], [[], []],
+        ):
+            self.assertIs(nested_chances(nested, [2, 3, 2]), False)
 
     def test_together_of_no_lists(self):
         self.assertEqual(together([]), [ONE])

@@ -24,12 +24,41 @@ FUNCTIONS = {
         "total": "game rule who", "kind_total": "game rule h i", "kind_weight": "game h i",
         "means": "game rule",
     },
+    "lies": {
+        "told_total": "game rule h i said told act", "lie_total": "game rule h i said done",
+        "best_lie": "game rule h i said", "gaining_lie": "game rule", "honest": "game rule",
+        "mixed_lie_total": "game rule h i says does",
+    },
+    "liepapers": {"lie_paper": "game rule", "judge_lies": "game rule paper"},
+    "talks": {
+        "is_talk": "game talk", "histories": "talk", "own_place": "talk h r history",
+        "own_bounds": "talk h r", "bounds_before": "talk r",
+    },
+    "plans": {
+        "are_plans": "game talk plans", "telling_chance": "talk state history",
+        "history_chance": "talk plans state kinds history", "with_plan": "plans h i plan",
+    },
+    "got": {"got_total": "game talk plans who", "got_kind_total": "game talk plans h i"},
+    "coming": {"rule_of": "game talk plans", "direct": "game rule"},
+    "changing": {
+        "with_silence": "game talk r", "silent_plans": "talk plans r", "renamed": "talk h r order",
+        "renamed_plans": "talk plans h r order", "pasted": "talk other",
+        "pasted_plans": "talk plans other other_plans",
+    },
+    "replies": {
+        "end_values": "game talk plans h i", "reply": "game talk plans h i",
+        "gaining_plan": "game talk plans", "judge_plans": "game talk plans",
+    },
+    "replypapers": {
+        "reply_paper": "game talk plans h i", "judge_reply": "game talk plans h i value paper",
+    },
 }
 
 CLASSES = {
     "errors": {"TalkError": {}, "BadText": {}, "UnknownName": {}, "NotAllowed": {}},
     "houses": {"House": {"__init__": "states hearers"}},
     "game": {"Game": {"__init__": "states kinds acts weights pays"}},
+    "talks": {"Talk": {"__init__": "hearers reports tellings chances"}},
     "cases": {
         "Case": {
             "__init__": "house", "weigh": "state kinds weight", "weights": "", "gain": "who amount event",

@@ -2,7 +2,10 @@ import unittest
 from fractions import Fraction
 from itertools import product
 
-from talkmost.ratio import add, added, at_most, div, dot, is_fraction, less, mul, neg, ratio, sub
+from talkmost.ratio import (
+    add, added, at_most, cover, div, dot, first_greatest, greatest, is_fraction, less, mul, multiplied, neg,
+    nested_numbers, ratio, scaled, sub,
+)
 
 HUGE = 10 ** 9999 + 7
 SAMPLES = [
@@ -97,6 +100,33 @@ class RatioTest(unittest.TestCase):
         a, b = [(1, 2), (-1, 3), (0, 1)], [(4, 1), (3, 1), (5, 7)]
         self.assertEqual(dot(a, b), (1, 1))
         self.assertEqual((a, b), ([(1, 2), (-1, 3), (0, 1)], [(4, 1), (3, 1), (5, 7)]))
+
+    def test_multiplied_and_scaled(self):
+        self.assertEqual(multiplied([]), (1, 1))
+        self.assertEqual(multiplied([(2, 3), (3, 4), (-1, 5)]), (-1, 10))
+        self.assertEqual(scaled((2, 3), [(3, 4), (0, 1), (-1, 1)]), [(1, 2), (0, 1), (-2, 3)])
+        self.assertEqual(scaled((2, 3), []), [])
+
+    def test_the_greatest(self):
+        numbers = [(-1, 2), (2, 3), (1, 2), (2, 3), (-5, 1)]
+        self.assertEqual((first_greatest(numbers), greatest(numbers)), (1, (2, 3)))
+        self.assertEqual((first_greatest([(-3, 1)]), greatest([(-3, 1)])), (0, (-3, 1)))
+        self.assertEqual(first_greatest([(0, 1), (0, 1)]), 0)
+
+    def test_cover(self):
+        lists = [[(1, 2), (1, 3)], [], [(0, 1), (-1, 1)]]
+        self.assertIs(cover([(1, 2), (0, 1), (0, 1)], lists), True)
+        self.assertIs(cover([(2, 5), (0, 1), (0, 1)], lists), False)
+        self.assertIs(cover([(1, 2), (0, 1), (-1, 9)], lists), False)
+
+    def test_nested_numbers(self):
+        nested = [[(1, 2), (-3, 1)], [(0, 1), (1, 1)], [(5, 2), (0, 1)]]
+        self.assertIs(nested_numbers(nested, [3, 2]), True)
+        self.assertIs(nested_numbers([], [0]), True)
+        for counts in ([2, 2], [3, 3], [3, 1], [4, 2]):
+            self.assertIs(nested_numbers(nested, counts), False)
+        nested[1][1] = (2, 4)
+        self.assertIs(nested_numbers(nested, [3, 2]), False)
 
     def test_is_fraction(self):
         for number in SAMPLES:
