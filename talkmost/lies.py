@@ -56,9 +56,9 @@ def gaining_lie(game, rule):
     """Return the first lie that gains, `(h, i, said, done, gain)`, or None if no lie gains."""
     for h, i, said in lies(game):
         done, got = best_lie(game, rule, h, i, said)
-        true = kind_total(game, rule, h, i)
-        if less(true, got):
-            return (h, i, said, done, sub(got, true))
+        truth = kind_total(game, rule, h, i)
+        if less(truth, got):
+            return (h, i, said, done, sub(got, truth))
     return None
 
 
