@@ -64,3 +64,24 @@ def plain_sums(game, rule, who, h=None, i=None):
 
 def source(seed):
     return random.Random(seed)
+
+
+def small_game(source, most=48):
+    """A random game with at most so many cases."""
+    while True:
+        game = random_game(source)
+        if game.states * count(game.kinds) * count(game.acts) <= most:
+            return game
+
+
+def random_aims(source, game):
+    return [random_number(source, -2, 2) for _ in game.pays]
+
+
+def is_lowest(item):
+    """Whether each pair of integers within lists and tuples is a fraction in lowest terms."""
+    if isinstance(item, tuple) and len(item) == 2 and all(isinstance(part, int) for part in item):
+        return item[1] >= 1 and pair(Fraction(*item)) == item
+    if isinstance(item, (list, tuple)):
+        return all(is_lowest(part) for part in item)
+    return True

@@ -6,7 +6,7 @@ import unittest
 from pathlib import Path
 
 PACKAGE = Path(__file__).resolve().parent.parent / "talkmost"
-LIBRARY = {"math": {"gcd"}}
+LIBRARY = {"math": {"gcd", "lcm"}}
 BUILTINS = set(
     "len range enumerate zip min max sum abs sorted reversed int str bool list tuple dict set isinstance "
     "ord repr any all divmod Exception ValueError TypeError KeyError IndexError LookupError super "
@@ -20,6 +20,10 @@ METHODS = set(
 )
 FORBIDDEN_NAMES = set(
     "register mro elements open input law version_info with_traceback add_note".split()
+)
+FORBIDDEN_ATTRIBUTES = set(
+    "items keys values pop update append clear extend insert remove reverse setdefault sort args encode decode "
+    "hex fromhex format".split()
 )
 FORBIDDEN_NODES = (
     ast.Div, ast.Global, ast.AsyncFunctionDef, ast.AsyncFor, ast.AsyncWith, ast.Await, ast.Import,
@@ -117,6 +121,12 @@ class FormTest(unittest.TestCase):
                     self.assertIn(node.id, BUILTINS, name)
                 if isinstance(node, ast.Call) and isinstance(node.func, ast.Attribute):
                     self.assertIn(node.func.attr, METHODS | own | {"__init__"}, name)
+
+    def test_attributes(self):
+        for name, tree in trees().items():
+            for node in ast.walk(tree):
+                if isinstance(node, ast.Attribute) and isinstance(node.ctx, ast.Store):
+                    self.assertNotIn(node.attr, FORBIDDEN_ATTRIBUTES, name)
 
     def test_values(self):
         for name, tree in trees().items():

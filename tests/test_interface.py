@@ -52,6 +52,14 @@ FUNCTIONS = {
     "replypapers": {
         "reply_paper": "game talk plans h i", "judge_reply": "game talk plans h i value paper",
     },
+    "mimic": {"mimic": "game plans h said done", "answer": "game talk plans"},
+    "programs": {"solve": "costs lines"},
+    "terms": {
+        "free_terms": "game", "cell_states": "terms", "lies_asked": "game terms",
+        "keeps_terms": "game terms rule",
+    },
+    "moving": {"most": "game terms aims"},
+    "movepapers": {"judge_most": "game terms aims value paper", "judge_nothing": "game terms paper"},
 }
 
 CLASSES = {
@@ -59,6 +67,7 @@ CLASSES = {
     "houses": {"House": {"__init__": "states hearers"}},
     "game": {"Game": {"__init__": "states kinds acts weights pays"}},
     "talks": {"Talk": {"__init__": "hearers reports tellings chances"}},
+    "terms": {"Terms": {"__init__": "cells seen trusted told floors"}},
     "cases": {
         "Case": {
             "__init__": "house", "weigh": "state kinds weight", "weights": "", "gain": "who amount event",
