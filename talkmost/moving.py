@@ -113,7 +113,8 @@ def telling_entries(columns, extras, telling, act):
 def floor_entries(columns, extras, h, i):
     """Return the entries that add up to the total of a kind."""
     totals = [
-        columns.value(h + 1, column) if columns.kind(h, column) == i else ZERO for column in columns.places
+        columns.value(h + 1, column) if columns.kind(h, column) == i else ZERO
+        for column in columns.places
     ]
     return totals + [ZERO] * len(extras)
 

@@ -2,7 +2,7 @@
 
 from talkmost.draws import size
 from talkmost.plans import are_plans
-from talkmost.ratio import at_most, cover, greatest, nested_numbers
+from talkmost.ratio import at_most, cover, greatest, is_fraction, nested_numbers
 from talkmost.replies import choice_numbers, end_values, report_sums
 from talkmost.talks import own_bounds, rounds
 
@@ -15,7 +15,7 @@ def reply_paper(game, talk, plans, h, i):
 
 def judge_reply(game, talk, plans, h, i, value, paper):
     """Return whether the paper is accepted for the value."""
-    if not are_plans(game, talk, plans) or not is_reply_paper(talk, h, paper):
+    if not are_plans(game, talk, plans) or not is_reply_paper(talk, h, paper) or not is_fraction(value):
         return False
     levels = [report_sums(talk, h, r, paper[r + 1]) for r in range(rounds(talk))]
     levels.append(end_values(game, talk, plans, h, i))

@@ -6,7 +6,7 @@ import unittest
 from pathlib import Path
 
 PACKAGE = Path(__file__).resolve().parent.parent / "talkmost"
-LIBRARY = {"math": {"gcd", "lcm"}}
+LIBRARY = {"math": {"gcd", "lcm"}, "itertools": {"combinations"}}
 BUILTINS = set(
     "len range enumerate zip min max sum abs sorted reversed int str bool list tuple dict set isinstance "
     "ord repr any all divmod Exception ValueError TypeError KeyError IndexError LookupError super "

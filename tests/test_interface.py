@@ -60,6 +60,20 @@ FUNCTIONS = {
     },
     "moving": {"most": "game terms aims"},
     "movepapers": {"judge_most": "game terms aims value paper", "judge_nothing": "game terms paper"},
+    "orders": {"looser": "terms other", "least_trusted": "game terms aims value"},
+    "margins": {
+        "losses": "game rule lie", "margin": "game rule", "wrong_weights": "game rule lie part",
+        "reweighed": "game weights",
+    },
+    "budgets": {
+        "choices": "game budget", "budget_most": "game aims budget", "frontier": "game aims value",
+    },
+    "desk": {"replay": "house journal"},
+    "beliefs": {
+        "best_acts": "game piece", "piece_act": "game piece", "piece_value": "game piece",
+        "is_split": "game pieces", "split_total": "game pieces", "best_split": "game",
+        "judge_plane": "game plane value", "split_talk": "game pieces",
+    },
 }
 
 CLASSES = {
@@ -72,6 +86,12 @@ CLASSES = {
         "Case": {
             "__init__": "house", "weigh": "state kinds weight", "weights": "", "gain": "who amount event",
             "strike": "index", "gains": "", "game": "",
+        },
+    },
+    "desk": {
+        "Desk": {
+            "__init__": "house", "do": "entry", "game": "", "standing": "", "changes": "entry",
+            "touches": "entry paper", "judge_side": "side value paper", "journal": "",
         },
     },
 }

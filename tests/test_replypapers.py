@@ -93,6 +93,10 @@ class JudgeReplyTest(unittest.TestCase):
         self.assertIs(self.judged(lambda paper: None, sub((6, 1), SMALL)), False)
         self.assertIs(self.judged(lambda paper: None, ZERO), False)
 
+    def test_fractions_of_another_form(self):
+        self.assertIs(self.judged(lambda paper: None, (14, 2)), False)
+        self.assertIs(self.judged(lambda paper: paper[1].__setitem__(0, (6, 2))), False)
+
     def test_a_number_or_a_list_too_few_or_too_many(self):
         changes = [
             lambda paper: paper[0].pop(), lambda paper: paper[0].append(ZERO),
